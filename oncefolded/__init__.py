@@ -1,0 +1,1 @@
+"""One reading of a text with conditions, for all of its configurations."""
