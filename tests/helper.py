@@ -73,3 +73,251 @@ def ends(d):
     if isinstance(d, tuple):
         return ends(d[1]) + ends(d[2])
     return [d]
+
+
+def is_in(d, config):
+    """Whether a diagram holds, straight from the definition."""
+    if not isinstance(d, tuple):
+        return d
+    i, low, high = d
+    return is_in(low, config) and config[i] == 0 or is_in(high, config) and config[i] == 1
+
+
+def some_diagram(chooser, count, share=0.6):
+    configs = all_configurations(count)
+    return diagram_by_definition({c for c in configs if chooser.random() < share}, count)
+
+
+def diagram_where(told, count):
+    """The diagram that holds where a function of the configuration says so."""
+    return diagram_by_definition({c for c in all_configurations(count) if told(c)}, count)
+
+
+def is_true_text(text, switches, config):
+    """Whether the text of a formula is true, by the words of Python."""
+    plain = text.replace("!", " not ").replace("&", " and ").replace("|", " or ").strip()
+    return bool(eval(plain, {}, dict(zip(switches, config))))
+
+
+def folded_words(text, *diagrams):
+    """Folded tokens of one line of words and signs with a space between, with
+    the diagrams in turn; True for those that have none."""
+    folded = []
+    column = 0
+    for number, word in enumerate(text.split()):
+        kind = "word" if word[0].isalpha() else "number" if word[0].isdigit() else "mark"
+        token = (kind, word, 0, column, False)
+        folded.append((token, diagrams[number] if number < len(diagrams) else True))
+        column += len(word) + 1
+    return folded
+
+
+def some_folded(chooser, texts, count):
+    """Folded tokens of these texts in a few rows, with diagrams that a row shares."""
+    folded = []
+    row, column, d = 0, 0, True
+    for text in texts:
+        if chooser.random() < 0.5:
+            row, column = row + 1, chooser.randrange(3)
+            d = True if chooser.random() < 0.4 else some_diagram(chooser, count)
+        kind = "word" if text.isalpha() else "number" if text.isdigit() else "mark"
+        glued = bool(folded) and folded[-1][0][2] == row and chooser.random() < 0.4
+        column += 0 if glued else 1
+        folded.append(((kind, text, row, column, glued), d))
+        column += len(text)
+    return folded
+
+
+def some_sentence(chooser, grammar, symbol, fuel):
+    """The texts of tokens that a symbol derives, by rules chosen at random; None if it takes too many steps."""
+    texts = []
+    waiting = [("symbol", symbol)]
+    while waiting:
+        kind, told = waiting.pop()
+        fuel -= 1
+        if fuel < 0:
+            return None
+        if kind == "symbol":
+            rule = chooser.choice([rule for rule in grammar[1] if rule[0] == told])
+            waiting += rule[1][::-1]
+        elif kind == "text":
+            texts.append(told)
+        else:
+            texts.append(chooser.choice(("x", "if") if told == "word" else ("1", "20")))
+    return texts
+
+
+def some_cases(seed, many, most=5):
+    """Grammars with folded tokens, of which some are derived in some configuration of two switches."""
+    chooser = random.Random(seed)
+    while many > 0:
+        grammar = some_grammar(chooser, 2)
+        for _ in range(3):
+            texts = some_sentence(chooser, grammar, "S", 30)
+            if texts and len(texts) <= most:
+                if chooser.random() < 0.6 and len(texts) < most:
+                    more = some_sentence(chooser, grammar, chooser.choice(("S", grammar[1][0][0])), 4) or []
+                    at = chooser.randrange(len(texts) + 1)
+                    texts = (texts[:at] + more + texts[at:])[:most]
+                yield grammar, some_folded(chooser, texts, 2)
+                many -= 1
+
+
+PARTS = (("kind", "word"), ("kind", "number"), ("text", "+"), ("text", "if"), ("text", "x"),
+         ("symbol", "S"), ("symbol", "Ab"), ("symbol", "C"), ("symbol", "S"), ("symbol", "Ab"))
+
+
+def some_grammar(chooser, count):
+    """A grammar with up to three symbols, bars and demands; the start is S."""
+    while True:
+        rules = []
+        for _ in range(chooser.randint(2, 7)):
+            right = tuple(chooser.choice(PARTS) for _ in range(chooser.choice((1, 1, 2, 2, 3))))
+            d = True if chooser.random() < 0.5 else some_diagram(chooser, count) or True
+            rules.append((chooser.choice(("S", "S", "Ab", "C")), right, d, some_demands(chooser, len(right))))
+        rules.append((chooser.choice(("S", "Ab", "C")), (chooser.choice(PARTS[:5]),), True, ()))
+        if chooser.random() < 0.5:
+            rules.append(("S", (("symbol", "S"), ("symbol", "S")), True, some_demands(chooser, 2)))
+        if not have_lefts(rules) or has_ring(rules):
+            continue
+        possible = [(r, p, b) for r, rule in enumerate(rules) for p, part in enumerate(rule[1])
+                    for b, below in enumerate(rules) if part == ("symbol", below[0])]
+        bars = sorted(chooser.sample(possible, min(len(possible), chooser.randrange(4))))
+        return ("S", tuple(rules), tuple(bar + (some_diagram(chooser, count) or True,) for bar in bars))
+
+
+def some_demands(chooser, many):
+    possible = [("glued", p) for p in range(many)]
+    possible += [(word, p, q) for word in ("same", "right", "row") for p in range(many) for q in range(many)
+                 if p != q]
+    return tuple(chooser.sample(possible, chooser.choice((0, 0, 1, min(2, len(possible))))))
+
+
+def have_lefts(rules):
+    lefts = {rule[0] for rule in rules}
+    return "S" in lefts and all(part[1] in lefts for rule in rules for part in rule[1] if part[0] == "symbol")
+
+
+def has_ring(rules):
+    """Whether a symbol derives itself, by following all steps from each symbol."""
+    steps = {(rule[0], rule[1][0][1]) for rule in rules if len(rule[1]) == 1 and rule[1][0][0] == "symbol"}
+    for symbol in {rule[0] for rule in rules}:
+        reached = {below for left, below in steps if left == symbol}
+        for _ in rules:
+            reached |= {below for left, below in steps if left in reached}
+        if symbol in reached:
+            return True
+    return False
+
+
+def fits(part, token):
+    return part == ("kind", token[0]) or part == ("text", token[1])
+
+
+def all_trees(grammar, folded, config):
+    """The trees over neighbouring present tokens in a configuration, as a dict to
+    (symbol, first index, last index): trees are put together, also in ways that
+    lead to nothing, until there is no new one."""
+    row = [k for k, (_, d) in enumerate(folded) if is_in(d, config)]
+    trees = {}
+    while True:
+        before = len(trees)
+        for number, (left, right, d, _) in enumerate(grammar[1]):
+            begun = [((), at, at) for at in range(len(row))] if is_in(d, config) else []
+            for part in right:
+                begun = [(children + (child,), begin, end) for children, begin, at in begun
+                         for child, end in steps_from(trees, folded, row, part, at)]
+            for children, begin, end in begun:
+                trees[(number, children)] = (left, row[begin], row[end - 1])
+        if len(trees) == before:
+            return trees
+
+
+def steps_from(trees, folded, row, part, at):
+    if at == len(row):
+        return []
+    if part[0] != "symbol":
+        return [(row[at], at + 1)] if fits(part, folded[row[at]][0]) else []
+    return [(tree, row.index(last) + 1) for tree, (symbol, first, last) in trees.items()
+            if symbol == part[1] and first == row[at]]
+
+
+def derivations_by_definition(grammar, folded, config):
+    row = [k for k, (_, d) in enumerate(folded) if is_in(d, config)]
+    if not row:
+        return []
+    return sorted(tree for tree, place in all_trees(grammar, folded, config).items()
+                  if place == (grammar[0], row[0], row[-1]))
+
+
+def reasons_by_definition(grammar, folded, config, tree, path=()):
+    rule, children = tree
+    found = []
+    for k, child in enumerate(children):
+        if isinstance(child, tuple):
+            for r, p, b, d in grammar[2]:
+                if (r, p, b) == (rule, k, child[0]) and is_in(d, config):
+                    found.append(("bar", path, k))
+            found += reasons_by_definition(grammar, folded, config, child, path + (k,))
+    firsts = [folded[min(indexes_of(child))][0] for child in children]
+    for n, demand in enumerate(grammar[1][rule][3]):
+        _, _, row, column, glued = firsts[demand[1]]
+        _, _, other_row, other_column, _ = firsts[demand[-1]]
+        if not {"glued": glued, "same": column == other_column, "right": column < other_column,
+                "row": row == other_row}[demand[0]]:
+            found.append(("demand", path, n))
+    return sorted(found)
+
+
+def indexes_of(tree):
+    return [tree] if isinstance(tree, int) else [index for child in tree[1] for index in indexes_of(child)]
+
+
+def all_ends(many, i, j):
+    """All tuples of so many pairs from i to j, as the ends of an alternative."""
+    if many == 1:
+        return [((i, j),)] if i < j else []
+    return [((i, e),) + rest for e in range(i + 1, j) for b in range(e, j) for rest in all_ends(many - 1, b, j)]
+
+
+def forest_by_definition(grammar, folded, count):
+    """The forest from its definition, one configuration at a time."""
+    known = {}
+
+    def is_present(k, config):
+        return is_in(folded[k][1], config)
+
+    def span_holds(span, config):
+        if (span, config) not in known:
+            known[span, config] = any(holds(alternative, config) for alternative in possible(span))
+        return known[span, config]
+
+    def holds(alternative, config):
+        number, ends = alternative
+        _, right, d, _ = grammar[1][number]
+        if not is_in(d, config):
+            return False
+        for (kind, told), (b, e) in zip(right, ends):
+            if kind == "symbol" and not span_holds((told, b, e), config):
+                return False
+            if kind != "symbol" and not is_present(b, config):
+                return False
+        gaps = [k for (_, e), (b, _) in zip(ends, ends[1:]) for k in range(e, b)]
+        return not any(is_present(k, config) for k in gaps)
+
+    def possible(span):
+        symbol, i, j = span
+        return [(number, ends) for number, rule in enumerate(grammar[1]) if rule[0] == symbol
+                for ends in all_ends(len(rule[1]), i, j)
+                if all(part[0] == "symbol" or e == b + 1 and fits(part, folded[b][0])
+                       for part, (b, e) in zip(rule[1], ends))]
+
+    forest = {}
+    for symbol in {rule[0] for rule in grammar[1]}:
+        for i in range(len(folded)):
+            for j in range(i + 1, len(folded) + 1):
+                found = [one + (diagram_where(lambda config: holds(one, config), count),)
+                         for one in sorted(possible((symbol, i, j)))]
+                if any(d is not False for _, _, d in found):
+                    forest[symbol, i, j] = tuple(one for one in found if one[2] is not False)
+    return forest

@@ -27,6 +27,31 @@ FUNCTIONS = {
         "written": ["switches", "d"],
         "is_diagram": ["value", "count"],
     },
+    "shelves": {
+        "lines_of": ["text"],
+        "choose": ["shelf", "name", "switches", "configuration"],
+        "fold": ["shelf", "name", "switches"],
+    },
+    "tokens": {
+        "tokens_of": ["text", "row"],
+        "fold_tokens": ["lines"],
+        "present": ["folded", "configuration"],
+    },
+    "grammars": {
+        "is_grammar": ["value", "count"],
+        "matches": ["part", "token"],
+        "rules_of": ["grammar", "symbol"],
+        "barred": ["grammar", "rule", "place", "below"],
+        "demand_holds": ["demand", "firsts"],
+    },
+    "grammar_texts": {
+        "read_grammar": ["switches", "text"],
+    },
+}
+
+CONSTANTS = {
+    "tokens": ["MARKS", "MAX_TOKENS"],
+    "grammars": ["MAX_PARTS", "MAX_RULES"],
 }
 
 # Each class with its bases and the arguments of its __init__, None without one.
@@ -59,6 +84,13 @@ class InterfaceTest(unittest.TestCase):
             for name, arguments in functions.items():
                 self.assertIn(name, found, module)
                 self.assertEqual(argument_names(found[name]), arguments, name)
+
+    def test_constants(self):
+        for module, names in CONSTANTS.items():
+            tree = ast.parse((PACKAGE / (module + ".py")).read_text(encoding="utf-8"))
+            found = [target.id for node in tree.body if isinstance(node, ast.Assign) for target in node.targets]
+            for name in names:
+                self.assertIn(name, found, module)
 
     def test_classes(self):
         for module, classes in CLASSES.items():
