@@ -55,6 +55,12 @@ def diagram_of(switches, formula):
     """Return the diagram that says the same as the formula."""
     count = len(switches)
     row = [is_true(switches, formula, configuration) for configuration in configurations(count)]
+    return diagram_of_row(row, count)
+
+
+def diagram_of_row(row, count):
+    """Return the diagram that holds where the row, which has True or False for each
+    configuration of so many switches, has True."""
     # Neighbours in the row differ in the last switch that is not yet joined.
     for i in reversed(range(count)):
         row = [_fork(i, row[k], row[k + 1]) for k in range(0, len(row), 2)]

@@ -47,6 +47,25 @@ FUNCTIONS = {
     "grammar_texts": {
         "read_grammar": ["switches", "text"],
     },
+    "derivations": {
+        "tokens_in": ["tree"],
+        "is_derivation": ["grammar", "folded", "configuration", "value"],
+        "count_derivations": ["grammar", "folded", "configuration"],
+        "derivations": ["grammar", "folded", "configuration"],
+        "reasons": ["grammar", "folded", "configuration", "tree"],
+        "is_allowed": ["grammar", "folded", "configuration", "tree"],
+    },
+    "forests": {
+        "make_forest": ["grammar", "folded"],
+        "span_diagram": ["forest", "span"],
+        "roots": ["grammar", "folded", "forest"],
+    },
+    "trees": {
+        "whole_span": ["grammar", "folded", "configuration"],
+        "count_trees": ["grammar", "forest", "span", "configuration"],
+        "trees_of": ["grammar", "forest", "span", "configuration"],
+        "trees_at": ["grammar", "folded", "forest", "configuration"],
+    },
 }
 
 CONSTANTS = {
