@@ -2,7 +2,7 @@
 
 from oncefolded.diagrams import holds
 from oncefolded.grammars import barred, demand_holds, matches, ordered_symbols, rules_of
-from oncefolded.packed import count_packed, list_packed
+from oncefolded.packed import count_packed, list_packed, without_bars
 from oncefolded.tokens import present
 
 # Trees may be deeper than calls should be nested: what is still to be looked at
@@ -65,8 +65,8 @@ def count_derivations(grammar, folded, configuration):
     row = present(folded, configuration)
     if not row:
         return 0
-    span = _span_of(grammar[0], row)
-    return count_packed(grammar, _packed(grammar, folded, configuration), span, configuration)
+    packed = _packed(grammar, folded, configuration)
+    return count_packed(without_bars(grammar), packed, _span_of(grammar[0], row), configuration)
 
 
 def derivations(grammar, folded, configuration):
@@ -74,8 +74,8 @@ def derivations(grammar, folded, configuration):
     row = present(folded, configuration)
     if not row:
         return []
-    span = _span_of(grammar[0], row)
-    return list_packed(grammar, _packed(grammar, folded, configuration), span, configuration)
+    packed = _packed(grammar, folded, configuration)
+    return list_packed(without_bars(grammar), packed, _span_of(grammar[0], row), configuration)
 
 
 def _span_of(symbol, row):

@@ -1,99 +1,133 @@
 """Forests: the trees of all configurations, read at once."""
 
-from oncefolded.bits import all_bits, bits_of, diagram_of_bits, switches_needed
+from oncefolded.bits import BitTable, switches_in
 from oncefolded.diagrams import both, either, negated
 from oncefolded.grammars import matches, ordered_symbols, rules_of
 
 
 def make_forest(grammar, folded):
     """Return the forest of the folded tokens."""
-    reading = Reading(grammar, folded)
-    order = ordered_symbols(grammar[1])
-    forest = {}
-    # What stands inside a span begins behind it, or ends before it, or is of a
-    # symbol ahead in the order: in this way it is there when it is needed.
-    for i in reversed(range(len(folded))):
-        for j in range(i + 1, len(folded) + 1):
-            for symbol in order:
-                alternatives = reading.read_span(symbol, i, j)
-                if alternatives:
-                    forest[(symbol, i, j)] = alternatives
-            reading.read_begun(i, j)
-    return forest
+    reading = Reading(grammar, switches_in(grammar, folded))
+    return reading.forest_of(folded)
+
+
+class Piece:
+    """What has been read of one content. Places are counted from its first token,
+    and all conditions are bits, except those of the alternatives."""
+
+    def __init__(self):
+        # From symbols to the tuples of their alternatives, ascending.
+        self.alternatives = {}
+        # From symbols to where one of their alternatives holds.
+        self.holding = {}
+        # From (rule, many) to the ways in which the first parts of the rule, so
+        # many, stand from end to end: the list of the pairs of ends and bits.
+        self.begun = {}
 
 
 class Reading:
-    """What has been read of folded tokens so far. All conditions are bits."""
+    """What has been read so far, over so many switches. What can be read of
+    neighbouring tokens depends on their content alone, so each is read once."""
 
-    def __init__(self, grammar, folded):
+    def __init__(self, grammar, count):
         self.grammar = grammar
-        diagrams = [d for _, d in folded] + [rule[2] for rule in grammar[1]]
-        self.count = max([switches_needed(d) for d in diagrams])
-        self.tokens = [token for token, _ in folded]
-        self.presence = [bits_of(d, self.count) for _, d in folded]
-        self.conditions = [bits_of(rule[2], self.count) for rule in grammar[1]]
-        # From (e, b) to where all tokens from e to b - 1 are absent.
-        self.gaps = {}
-        for e in range(len(folded) + 1):
-            self.gaps[(e, e)] = all_bits(self.count)
-            for b in range(e, len(folded)):
-                self.gaps[(e, b + 1)] = self.gaps[(e, b)] & ~self.presence[b]
-        # From spans to where one of their alternatives holds.
-        self.spans = {}
-        # From (rule, many, i, j) to the ways in which the first parts of the rule,
-        # so many, stand from i to j: the list of the pairs of ends and bits.
-        self.begun = {}
-        self.diagrams = {}
+        self.table = BitTable(count)
+        self.order = ordered_symbols(grammar[1])
+        self.rule_bits = [self.table.bits(rule[2]) for rule in grammar[1]]
+        # Each triple (kind, text, diagram) has a number. A content is the tuple of
+        # the numbers of its tokens.
+        self.numbers = {}
+        self.tokens = []
+        self.presence = []
+        self.pieces = {}
 
-    def read_span(self, symbol, i, j):
-        """Return the alternatives of a span as a tuple, ascending."""
+    def forest_of(self, folded):
+        """Return the forest of folded tokens."""
+        content = tuple([self.number_of(token, d) for token, d in folded])
+        forest = {}
+        # What stands inside a content begins behind it, or ends before it: in this
+        # way it has been read when it is needed.
+        for i in reversed(range(len(content))):
+            for j in range(i + 1, len(content) + 1):
+                piece = self.piece_of(content[i:j])
+                for symbol, alternatives in piece.alternatives.items():
+                    forest[(symbol, i, j)] = tuple([(rule, _moved(ends, i), d) for rule, ends, d in alternatives])
+        return forest
+
+    def number_of(self, token, d):
+        key = (token[0], token[1], d)
+        if key not in self.numbers:
+            self.numbers[key] = len(self.tokens)
+            self.tokens.append(token)
+            self.presence.append(self.table.bits(d))
+        return self.numbers[key]
+
+    def many_read(self):
+        """Return the number of the contents that have been read."""
+        return len(self.pieces)
+
+    def piece_of(self, content):
+        if content not in self.pieces:
+            # A part may stand for all of the content, so what has been read of it
+            # must be found while the rest of it is still read.
+            self.pieces[content] = Piece()
+            for symbol in self.order:
+                self.read_symbol(content, symbol)
+            self.read_begun(content)
+        return self.pieces[content]
+
+    def read_symbol(self, content, symbol):
+        piece = self.pieces[content]
         found = []
         holding = 0
         for rule in rules_of(self.grammar, symbol):
-            ways = self.ways(rule, len(self.right(rule)), i, j)
+            ways = self.ways(rule, len(self.right(rule)), content)
             for ends, bits in sorted(ways):
-                found.append((rule, ends, self.diagram(bits)))
+                found.append((rule, ends, self.table.diagram(bits)))
                 holding = holding | bits
-        self.spans[(symbol, i, j)] = holding
-        return tuple(found)
+        piece.holding[symbol] = holding
+        if found:
+            piece.alternatives[symbol] = tuple(found)
 
-    def read_begun(self, i, j):
-        """Read what rules may begin with from i to j. The spans there have been read."""
+    def read_begun(self, content):
+        """Read what rules may begin with. The symbols have been read."""
+        piece = self.pieces[content]
         for rule in range(len(self.grammar[1])):
             for many in range(1, len(self.right(rule))):
-                self.begun[(rule, many, i, j)] = self.ways(rule, many, i, j)
+                piece.begun[(rule, many)] = self.ways(rule, many, content)
 
     def right(self, rule):
         return self.grammar[1][rule][1]
 
-    def ways(self, rule, many, i, j):
-        """Return the ways in which the first parts of a rule, so many, stand from i to j."""
+    def ways(self, rule, many, content):
+        """Return the ways in which the first parts of a rule, so many, stand from
+        end to end of a content."""
         part = self.right(rule)[many - 1]
         if many == 1:
-            bits = self.conditions[rule] & self.part_bits(part, i, j)
-            return [(((i, j),), bits)] if bits else []
+            bits = self.rule_bits[rule] & self.part_bits(part, content)
+            return [(((0, len(content)),), bits)] if bits else []
         found = []
-        for b in range(i + 1, j):
-            last = self.part_bits(part, b, j)
-            for e in reversed(range(i + 1, b + 1)):
-                here = last & self.gaps[(e, b)]
-                # A longer gap is open in no more configurations than a shorter one.
-                if not here:
-                    break
-                found.extend([((*ends, (b, j)), before & here)
-                              for ends, before in self.begun[(rule, many - 1, i, e)] if before & here])
+        for b in range(1, len(content)):
+            here = self.part_bits(part, content[b:])
+            e = b
+            # A longer gap is open in no more configurations than a shorter one.
+            while here and e > 0:
+                begun = self.pieces[content[:e]].begun[(rule, many - 1)]
+                found.extend([((*ends, (b, len(content))), before & here) for ends, before in begun if before & here])
+                e -= 1
+                here = here & ~self.presence[content[e]]
         return found
 
-    def part_bits(self, part, b, e):
-        """Return where the part derives what is present from b to e."""
+    def part_bits(self, part, content):
+        """Return where the part derives what is present of a content."""
         if part[0] == "symbol":
-            return self.spans[(part[1], b, e)]
-        return self.presence[b] if e == b + 1 and matches(part, self.tokens[b]) else 0
+            return self.pieces[content].holding[part[1]]
+        fits = len(content) == 1 and matches(part, self.tokens[content[0]])
+        return self.presence[content[0]] if fits else 0
 
-    def diagram(self, bits):
-        if bits not in self.diagrams:
-            self.diagrams[bits] = diagram_of_bits(bits, self.count)
-        return self.diagrams[bits]
+
+def _moved(ends, by):
+    return tuple([(b + by, e + by) for b, e in ends])
 
 
 def span_diagram(forest, span):

@@ -43,6 +43,11 @@ def demand_holds(demand, firsts):
     return first[2] == second[2]
 
 
+def demands_hold(grammar, rule, firsts):
+    """Tell whether all demands of a rule hold for the first tokens of the parts."""
+    return all(demand_holds(demand, firsts) for demand in grammar[1][rule][3])
+
+
 def is_grammar(value, count):
     """Tell whether the value is a grammar over so many switches."""
     if not isinstance(value, tuple) or len(value) != 3:
@@ -86,7 +91,7 @@ def _is_part(value):
     return kind == "symbol" and is_symbol(told)
 
 
-def _is_index(value, count):
+def is_index(value, count):
     """Tell whether the value is an integer from 0 to count - 1, not True or False."""
     return isinstance(value, int) and not isinstance(value, bool) and 0 <= value < count
 
@@ -95,7 +100,7 @@ def is_demand(value, count):
     """Tell whether the value is a demand of a right side with so many parts."""
     if not isinstance(value, tuple) or len(value) not in (2, 3):
         return False
-    if not all(_is_index(place, count) for place in value[1:]):
+    if not all(is_index(place, count) for place in value[1:]):
         return False
     if len(value) == 2:
         return value[0] == "glued"
@@ -144,10 +149,10 @@ def _are_bars(bars, rules, count):
 def bar_fits(bar, rules):
     """Tell whether the rule `below` of a bar could stand at its place without the bar."""
     rule, place, below, _ = bar
-    if not _is_index(rule, len(rules)) or not _is_index(below, len(rules)):
+    if not is_index(rule, len(rules)) or not is_index(below, len(rules)):
         return False
     right = rules[rule][1]
-    return _is_index(place, len(right)) and right[place] == ("symbol", rules[below][0])
+    return is_index(place, len(right)) and right[place] == ("symbol", rules[below][0])
 
 
 def derives_itself(rules):

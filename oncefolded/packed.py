@@ -1,5 +1,6 @@
 """Packed trees: a dict from spans to alternatives stands for all trees that are
-put together from them. The forest is such a dict, for all configurations."""
+put together from them, as the bars of the grammar allow it. The alive forest is such
+a dict, for all configurations; the forest is one for a grammar without bars."""
 
 from oncefolded.diagrams import holds
 from oncefolded.errors import TooMany
@@ -8,75 +9,175 @@ from oncefolded.grammars import ordered_symbols
 MAX_TREES = 300
 
 
+def without_bars(grammar):
+    """Return the grammar without its bars."""
+    return (grammar[0], grammar[1], ())
+
+
 def spans_in(grammar, rule, ends):
-    """Return the list of the spans of the parts that are symbols."""
+    """Return the list of the pairs of place and span of the parts that are symbols."""
     right = grammar[1][rule][1]
-    return [(told, b, e) for (kind, told), (b, e) in zip(right, ends) if kind == "symbol"]
+    return [(place, (right[place][1], b, e)) for place, (b, e) in enumerate(ends) if right[place][0] == "symbol"]
+
+
+def lowest_first(grammar, spans):
+    """Return the list of the spans, each behind those that its alternatives need."""
+    ranks = {symbol: rank for rank, symbol in enumerate(ordered_symbols(grammar[1]))}
+    rows = [(span[2] - span[1], ranks.get(span[0], 0), span) for span in spans]
+    return [span for _, _, span in sorted(rows)]
+
+
+class Choices:
+    """What may be chosen in a configuration where trees are put together. The trees
+    of one span with one rule at their top are a choice (span, rule)."""
+
+    def __init__(self, grammar, packed, configuration):
+        self.grammar = grammar
+        self.packed = packed
+        self.configuration = configuration
+        self.bars = {bar[:3]: True for bar in grammar[2] if holds(bar[3], configuration)}
+        # From spans to dicts from rules to the lists of the ends of the alternatives that hold.
+        self.known = {}
+
+    def ends_of(self, span):
+        """Return a dict from the rules of the alternatives that hold to their ends."""
+        if span not in self.known:
+            found = {}
+            for rule, ends, d in self.packed.get(span, ()):
+                if holds(d, self.configuration):
+                    found.setdefault(rule, []).append(ends)
+            self.known[span] = found
+        return self.known[span]
+
+    def tops(self, span):
+        """Return the list of the choices of a span."""
+        return [(span, rule) for rule in self.ends_of(span)]
+
+    def below(self, rule, place, span):
+        """Return the list of the choices of a span that may stand at a place of a rule."""
+        return [(span, top) for top in self.ends_of(span) if (rule, place, top) not in self.bars]
+
+    def needed(self, tops):
+        """Return the list of the choices and of all choices that they need, each
+        behind those that it needs."""
+        rules = {}
+        places = {}
+        waiting = list(tops)
+        while waiting:
+            span, rule = waiting.pop()
+            if rule in rules.setdefault(span, []):
+                continue
+            rules[span].append(rule)
+            for ends in self.ends_of(span)[rule]:
+                for place, lower in spans_in(self.grammar, rule, ends):
+                    if (rule, place, lower) not in places:
+                        places[(rule, place, lower)] = True
+                        waiting.extend(self.below(rule, place, lower))
+        return [(span, rule) for span in lowest_first(self.grammar, list(rules)) for rule in rules[span]]
+
+    def counts(self, choices):
+        """Return a dict from the choices, which stand behind what they need, to the
+        numbers of their trees."""
+        counts = {}
+        sums = {}
+        for span, rule in choices:
+            total = 0
+            for ends in self.ends_of(span)[rule]:
+                many = 1
+                for place, lower in spans_in(self.grammar, rule, ends):
+                    key = (rule, place, lower)
+                    if key not in sums:
+                        sums[key] = sum([counts[choice] for choice in self.below(*key)])
+                    many = many * sums[key]
+                total += many
+            counts[(span, rule)] = total
+        return counts
+
+    def rows_of_children(self, trees, rule, ends):
+        """Return the list of the tuples of children that an alternative gives."""
+        rows = [()]
+        lower = {place: span for place, span in spans_in(self.grammar, rule, ends)}
+        for place, (b, _) in enumerate(ends):
+            children = [b]
+            if place in lower:
+                children = [tree for choice in self.below(rule, place, lower[place]) for tree in trees[choice]]
+            rows = [row + (child,) for row in rows for child in children]
+        return rows
+
+    def alternatives(self, choices):
+        """Return the list of the alternatives (rule, ends) of choices."""
+        return [(rule, ends) for span, rule in choices for ends in self.ends_of(span)[rule]]
+
+    def nodes_of_one(self, span, turn):
+        """Return the nodes of one tree of a span, each ahead of what is below it, and
+        the first place among them where there was something else to choose, or
+        None. At the place `turn` the second alternative is chosen, elsewhere the first."""
+        nodes = []
+        fork = None
+        waiting = [self.alternatives(self.tops(span))]
+        while waiting:
+            node = waiting.pop()
+            if isinstance(node, list):
+                if len(node) > 1 and fork is None:
+                    fork = len(nodes)
+                rule, ends = node[1 if len(nodes) == turn else 0]
+                node = (rule, len(ends))
+                children = [b for b, _ in ends]
+                for place, lower in spans_in(self.grammar, rule, ends):
+                    children[place] = self.alternatives(self.below(rule, place, lower))
+                waiting.extend(children[::-1])
+            nodes.append(node)
+        return nodes, fork
 
 
 def count_packed(grammar, packed, span, configuration):
     """Return the number of the trees of a span."""
-    counts = _counts(grammar, _ways_below(grammar, packed, span, configuration))
-    return counts[span]
+    choices = Choices(grammar, packed, configuration)
+    tops = choices.tops(span)
+    counts = choices.counts(choices.needed(tops))
+    return sum([counts[top] for top in tops])
 
 
 def list_packed(grammar, packed, span, configuration):
     """Return the ascending list of the trees of a span, or raise TooMany."""
-    ways = _ways_below(grammar, packed, span, configuration)
-    # Each span below has a part in some tree of this one, so none has more trees.
-    if _counts(grammar, ways)[span] > MAX_TREES:
+    choices = Choices(grammar, packed, configuration)
+    tops = choices.tops(span)
+    needed = choices.needed(tops)
+    counts = choices.counts(needed)
+    # Each choice that is needed has a part in some tree of the span, so none has more trees.
+    if sum([counts[top] for top in tops]) > MAX_TREES:
         raise TooMany(f"there are more than {MAX_TREES} trees")
     trees = {}
-    for below in _lowest_first(grammar, ways):
-        trees[below] = [(rule, children) for rule, ends in ways[below]
-                        for children in _rows_of_children(grammar, trees, rule, ends)]
-    return sorted(trees[span], key=_numbers_in)
+    for lower, rule in needed:
+        trees[(lower, rule)] = [(rule, children) for ends in choices.ends_of(lower)[rule]
+                                for children in choices.rows_of_children(trees, rule, ends)]
+    return sorted([tree for top in tops for tree in trees[top]], key=numbers_in)
 
 
-def _ways_below(grammar, packed, span, configuration):
-    """Return the alternatives that hold in the configuration, as pairs (rule, ends):
-    a dict with those of the span and of all spans that they need."""
-    ways = {}
-    waiting = [span]
-    while waiting:
-        top = waiting.pop()
-        if top not in ways:
-            ways[top] = [(rule, ends) for rule, ends, d in packed.get(top, ()) if holds(d, configuration)]
-            for rule, ends in ways[top]:
-                waiting.extend(spans_in(grammar, rule, ends))
-    return ways
+def some_packed(grammar, packed, span, configuration):
+    """Return one tree of a span, which has one, and another if there are several:
+    the ascending list of the two."""
+    choices = Choices(grammar, packed, configuration)
+    nodes, fork = choices.nodes_of_one(span, None)
+    if fork is None:
+        return [_tree_of(nodes)]
+    others, _ = choices.nodes_of_one(span, fork)
+    return sorted([_tree_of(nodes), _tree_of(others)], key=numbers_in)
 
 
-def _lowest_first(grammar, ways):
-    """Return the list of the spans, each behind those that its alternatives need."""
-    ranks = {symbol: rank for rank, symbol in enumerate(ordered_symbols(grammar[1]))}
-    rows = [(span[2] - span[1], ranks.get(span[0], 0), span) for span in ways]
-    return [span for _, _, span in sorted(rows)]
+def _tree_of(nodes):
+    """Return the tree with these nodes: pairs of a rule and the number of its
+    children, each ahead of its children, and indexes."""
+    built = []
+    for node in reversed(nodes):
+        if isinstance(node, tuple):
+            rule, many = node
+            node = (rule, tuple([built.pop() for _ in range(many)]))
+        built.append(node)
+    return built[0]
 
 
-def _counts(grammar, ways):
-    """Return a dict from the spans to the numbers of their trees."""
-    counts = {}
-    for span in _lowest_first(grammar, ways):
-        counts[span] = 0
-        for rule, ends in ways[span]:
-            many = 1
-            for below in spans_in(grammar, rule, ends):
-                many = many * counts[below]
-            counts[span] += many
-    return counts
-
-
-def _rows_of_children(grammar, trees, rule, ends):
-    """Return the list of the tuples of children that an alternative gives."""
-    rows = [()]
-    for (kind, told), (b, e) in zip(grammar[1][rule][1], ends):
-        choices = trees[(told, b, e)] if kind == "symbol" else [b]
-        rows = [row + (child,) for row in rows for child in choices]
-    return rows
-
-
-def _numbers_in(tree):
+def numbers_in(tree):
     """Return the list of the rules and indexes in a tree, each rule ahead of what is
     below it. Lists of two trees compare as the trees do, which may be too deep
     for it: the number of a rule tells how many children it has, and of what kind."""

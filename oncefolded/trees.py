@@ -1,6 +1,6 @@
 """Trees: what a forest holds in one configuration."""
 
-from oncefolded.packed import count_packed, list_packed
+from oncefolded.packed import count_packed, list_packed, without_bars
 from oncefolded.tokens import present
 
 
@@ -14,12 +14,12 @@ def whole_span(grammar, folded, configuration):
 
 def count_trees(grammar, forest, span, configuration):
     """Return the number of the trees of a span."""
-    return count_packed(grammar, forest, span, configuration)
+    return count_packed(without_bars(grammar), forest, span, configuration)
 
 
 def trees_of(grammar, forest, span, configuration):
     """Return the ascending list of the trees of a span, or raise TooMany."""
-    return list_packed(grammar, forest, span, configuration)
+    return list_packed(without_bars(grammar), forest, span, configuration)
 
 
 def trees_at(grammar, folded, forest, configuration):

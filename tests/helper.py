@@ -260,13 +260,16 @@ def reasons_by_definition(grammar, folded, config, tree, path=()):
                     found.append(("bar", path, k))
             found += reasons_by_definition(grammar, folded, config, child, path + (k,))
     firsts = [folded[min(indexes_of(child))][0] for child in children]
-    for n, demand in enumerate(grammar[1][rule][3]):
-        _, _, row, column, glued = firsts[demand[1]]
-        _, _, other_row, other_column, _ = firsts[demand[-1]]
-        if not {"glued": glued, "same": column == other_column, "right": column < other_column,
-                "row": row == other_row}[demand[0]]:
-            found.append(("demand", path, n))
+    found += [("demand", path, n) for n, demand in enumerate(grammar[1][rule][3])
+              if not demand_by_definition(demand, firsts)]
     return sorted(found)
+
+
+def demand_by_definition(demand, firsts):
+    _, _, row, column, glued = firsts[demand[1]]
+    _, _, other_row, other_column, _ = firsts[demand[-1]]
+    return {"glued": glued, "same": column == other_column, "right": column < other_column,
+            "row": row == other_row}[demand[0]]
 
 
 def indexes_of(tree):
@@ -321,3 +324,166 @@ def forest_by_definition(grammar, folded, count):
                 if any(d is not False for _, _, d in found):
                     forest[symbol, i, j] = tuple(one for one in found if one[2] is not False)
     return forest
+
+
+def ends_of_tree(tree):
+    """The ends of the alternative from which a tree comes."""
+    return tuple((child, child + 1) if isinstance(child, int)
+                 else (min(indexes_of(child)), max(indexes_of(child)) + 1) for child in tree[1])
+
+
+def alive_trees_by_definition(grammar, folded, config):
+    """A dict from spans to the ascending lists of their trees against which there is no reason."""
+    found = {}
+    for tree, (symbol, first, last) in all_trees(grammar, folded, config).items():
+        if not reasons_by_definition(grammar, folded, config, tree):
+            found.setdefault((symbol, first, last + 1), []).append(tree)
+    return {span: sorted(trees) for span, trees in found.items()}
+
+
+def alive_by_definition(grammar, folded, count):
+    """The alive forest, from the trees of each configuration."""
+    where = {}
+    for config in all_configurations(count):
+        for span, trees in alive_trees_by_definition(grammar, folded, config).items():
+            for tree in trees:
+                where.setdefault(span, {}).setdefault((tree[0], ends_of_tree(tree)), set()).add(config)
+    return {span: tuple((rule, ends, diagram_by_definition(found[rule, ends], count)) for rule, ends in sorted(found))
+            for span, found in where.items()}
+
+
+def texts_trees_by_definition(grammar, folded, config):
+    """The trees of the text: the derivations against which there is no reason."""
+    return [tree for tree in derivations_by_definition(grammar, folded, config)
+            if not reasons_by_definition(grammar, folded, config, tree)]
+
+
+def conditions_by_definition(grammar, folded, count):
+    many = {config: len(texts_trees_by_definition(grammar, folded, config)) for config in all_configurations(count)}
+    return tuple(diagram_where(told, count)
+                 for told in (lambda c: many[c] == 0, lambda c: many[c] == 1, lambda c: many[c] > 1))
+
+
+def all_items(grammar, many):
+    """All items over so many folded tokens, ascending."""
+    return sorted((number, begins, end) for number, rule in enumerate(grammar[1])
+                  for size in range(1, len(rule[1]) + 1) for begins in itertools.combinations(range(many), size)
+                  for end in range(begins[-1] + 1, many + 1))
+
+
+def ways_by_definition(grammar, folded, items, item, count):
+    """The ways of an item from different items, as pairs of them with a set of configurations."""
+    number, begins, end = item
+    _, right, d, demands = grammar[1][number]
+    m, b = len(begins), begins[-1]
+    kind, told = right[m - 1]
+    if m == len(right) and not all(demand_by_definition(demand, [folded[k][0] for k in begins]) for demand in demands):
+        return []
+    earliers = [None]
+    if m > 1:
+        earliers = [e for e in items if e[0] == number and e[1] == begins[:-1] and e[2] <= b]
+    if kind == "symbol":
+        lowers = [e for e in items if len(e[1]) == len(grammar[1][e[0]][1]) and grammar[1][e[0]][0] == told
+                  and e[1][0] == b and e[2] == end]
+    else:
+        lowers = [None] if end == b + 1 and fits((kind, told), folded[b][0]) else []
+    found = []
+    for earlier, lower in itertools.product(earliers, lowers):
+        where = set()
+        for c in all_configurations(count):
+            gap = range(earlier[2], b) if earlier else []
+            barred = [bar for bar in grammar[2] if lower and bar[:3] == (number, m - 1, lower[0]) and is_in(bar[3], c)]
+            if ((m > 1 or is_in(d, c)) and (lower or is_in(folded[b][1], c)) and not barred
+                    and not any(is_in(folded[k][1], c) for k in gap)):
+                where.add(c)
+        if where:
+            found.append((earlier, lower, frozenset(where)))
+    return found
+
+
+def configs_of(d, count):
+    return frozenset(config for config in all_configurations(count) if is_in(d, config))
+
+
+class PlainPapers:
+    """What papers with rows say of a grammar and folded tokens, worked out with sets of
+    configurations, for all items that there are."""
+
+    def __init__(self, grammar, folded, count):
+        self.grammar, self.folded, self.count = grammar, folded, count
+        self.items = all_items(grammar, len(folded))
+        self.ways = {item: ways_by_definition(grammar, folded, self.items, item, count) for item in self.items}
+        self.tops = {}
+        for item in self.items:
+            if grammar[1][item[0]][0] == grammar[0] and len(item[1]) == len(grammar[1][item[0]][1]):
+                outside = [d for k, (_, d) in enumerate(folded) if not item[1][0] <= k < item[2]]
+                self.tops[item] = frozenset(
+                    c for c in all_configurations(count) if not any(is_in(d, c) for d in outside))
+
+    def least_may(self, where):
+        """The smallest sets under which the rows are closed."""
+        may = {item: frozenset() for item in self.items}
+        while True:
+            before = dict(may)
+            for item in self.items:
+                for way in self.ways[item]:
+                    may[item] |= self.of_way(may, way) & where
+            if may == before:
+                return {item: found for item, found in may.items() if found}
+
+    def of_way(self, may, way):
+        """Where a way holds, by the sets of the items that it is made of."""
+        earlier, lower, where = way
+        for item in (earlier, lower):
+            where = where & may.get(item, frozenset()) if item is not None else where
+        return where
+
+    def least_need(self, may, where):
+        need = {item: may[item] & self.tops.get(item, frozenset()) & where for item in may}
+        while True:
+            before = dict(need)
+            for item in may:
+                for way in self.ways[item]:
+                    for below in way[:2]:
+                        if below in need:
+                            need[below] |= self.of_way(may, way) & need[item]
+            if need == before:
+                return need
+
+    def paper(self, word, where):
+        """The paper with the smallest rows, which is right if one with this diagram is."""
+        may = self.least_may(where)
+        told = [may, self.least_need(may, where)][:1 if word == "nothing" else 2]
+        rows = [item + tuple(diagram_by_definition(sets[item], self.count) for sets in told) for item in sorted(may)]
+        return (word, diagram_by_definition(where, self.count), tuple(rows))
+
+    def is_right(self, paper):
+        """Whether a paper with rows that have the right form is right."""
+        word, d, rows = paper
+        where = configs_of(d, self.count)
+        may = {row[:3]: configs_of(row[3], self.count) for row in rows}
+        for item in self.items:
+            if any(not self.of_way(may, way) & where <= may.get(item, frozenset()) for way in self.ways[item]):
+                return False
+        tops = {item: may[item] & self.tops[item] & where for item in may if item in self.tops}
+        if word == "nothing":
+            return not any(tops.values())
+        need = {row[:3]: configs_of(row[4], self.count) for row in rows}
+        if overlap(list(tops.values())) or not all(tops[item] <= need[item] for item in tops):
+            return False
+        for item in may:
+            ways = [(way, self.of_way(may, way) & need[item]) for way in self.ways[item]]
+            if overlap([found for _, found in ways]):
+                return False
+            for way, found in ways:
+                if not all(found <= need.get(below, frozenset()) for below in way[:2] if below is not None):
+                    return False
+        return True
+
+
+def overlap(sets):
+    return any(one & other for one, other in itertools.combinations(sets, 2))
+
+
+def diagram_at_by_definition(config):
+    return diagram_by_definition({config}, len(config))

@@ -66,6 +66,23 @@ FUNCTIONS = {
         "trees_of": ["grammar", "forest", "span", "configuration"],
         "trees_at": ["grammar", "folded", "forest", "configuration"],
     },
+    "alive": {
+        "alive_forest": ["grammar", "folded", "forest"],
+        "allowed_below": ["grammar", "rule", "place", "alternatives"],
+        "count_alive": ["grammar", "alive", "span", "configuration"],
+        "alive_trees": ["grammar", "folded", "alive", "configuration"],
+    },
+    "conditions": {
+        "conditions": ["grammar", "folded", "alive"],
+    },
+    "items": {
+        "ways": ["grammar", "folded", "items", "item"],
+        "covers": ["folded", "item"],
+    },
+    "papers": {
+        "check_paper": ["grammar", "folded", "count", "paper"],
+        "check_report": ["grammar", "folded", "count", "conditions", "report"],
+    },
 }
 
 CONSTANTS = {
