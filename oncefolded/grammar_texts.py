@@ -9,6 +9,7 @@ from oncefolded.tokens import DIGITS
 
 # The first line tells the start, so the rules begin in the second one.
 FIRST_RULE_LINE = 2
+MAX_DIGITS = 2
 
 
 def read_grammar(switches, text):
@@ -88,19 +89,19 @@ def _read_condition(switches, words):
 def _demand_of(word):
     """Return the demand that the word writes, with None for what is no number."""
     name, *places = word.split(":")
-    return (name, *[_number_of(place) for place in places])
+    return (name, *[number_of(place, MAX_DIGITS) for place in places])
 
 
-def _number_of(word):
-    """Return the number of at most two digits that the word writes, or None."""
-    if not 1 <= len(word) <= 2 or not all(sign in DIGITS for sign in word):
+def number_of(word, most):
+    """Return the number of at most so many digits that the word writes, or None."""
+    if not 1 <= len(word) <= most or not all(sign in DIGITS for sign in word):
         return None
     number = int(word)
     return number if str(number) == word else None
 
 
 def _read_bar(switches, line, words):
-    numbers = [_number_of(word) for word in words[1:4]]
+    numbers = [number_of(word, MAX_DIGITS) for word in words[1:4]]
     d, rest = _read_condition(switches, words[4:])
     if len(numbers) < 3 or None in numbers or d is False or rest:
         raise BadGrammar(line)

@@ -3,6 +3,7 @@ out in another way than the package does it."""
 
 import itertools
 import random
+import re
 
 NAMES = ("a", "bc", "def", "gh", "x")
 
@@ -145,6 +146,20 @@ def some_sentence(chooser, grammar, symbol, fuel):
         else:
             texts.append(chooser.choice(("x", "if") if told == "word" else ("1", "20")))
     return texts
+
+
+def some_case_words(chooser, grammar, most):
+    """The texts of a few tokens, mostly such as the start derives."""
+    while True:
+        texts = some_sentence(chooser, grammar, "S", 30) or []
+        if texts and len(texts) <= most:
+            if chooser.random() < 0.5:
+                more = some_sentence(chooser, grammar, "S", 4) or ["+"]
+                at = chooser.randrange(len(texts) + 1)
+                texts = (texts[:at] + more + texts[at:])[:most]
+            return texts
+        if chooser.random() < 0.05:
+            return ["x", "+", "1"]
 
 
 def some_cases(seed, many, most=5):
@@ -487,3 +502,81 @@ def overlap(sets):
 
 def diagram_at_by_definition(config):
     return diagram_by_definition({config}, len(config))
+
+
+def formula_text(configs, switches):
+    """The text, without spaces, of a formula that is true in these configurations."""
+    joined = ["&".join(name if bit else "!" + name for name, bit in zip(switches, config)) for config in sorted(configs)]
+    return "|".join(joined) or "0"
+
+
+def grammar_lines(grammar, switches):
+    """The lines of the text of a grammar."""
+    start, rules, bars = grammar
+
+    def tail(d):
+        return [] if d is True else ["{" + formula_text(configs_of(d, len(switches)), switches) + "}"]
+
+    lines = [f"start {start}"]
+    for left, right, d, demands in rules:
+        parts = [f'"{told}"' if kind == "text" else told for kind, told in right]
+        lines.append(" ".join(["rule", left, "=", *parts, *tail(d), *[":".join(map(str, demand)) for demand in demands]]))
+    return lines + [" ".join(["bar", str(r), str(p), str(b), *tail(d)]) for r, p, b, d in bars]
+
+
+class PlainText:
+    """What a shelf that is fine says, read line by line with sets of configurations:
+    its content lines, and its tokens with the rows and indexes of the folded ones."""
+
+    def __init__(self, shelf, name, switches):
+        self.shelf, self.switches = shelf, switches
+        self.every = frozenset(all_configurations(len(switches)))
+        self.lines = []
+        self.read(name, self.every)
+        self.lines = [(text, where) for text, where in self.lines if where]
+        self.folded = [(token, diagram_by_definition(where, len(switches)))
+                       for row, (text, where) in enumerate(self.lines) for token in self.tokens(text, row)]
+
+    def read(self, name, where):
+        around = []
+        for line in self.shelf[name].split("\n") if self.shelf[name] else []:
+            if line.startswith("#if "):
+                around.append(where)
+                where = where & {c for c in self.every if is_true_text(line[4:], self.switches, c)}
+            elif line == "#else":
+                where = around[-1] - where
+            elif line == "#end":
+                where = around.pop()
+            elif line.startswith("#use "):
+                self.read(line[5:], where)
+            else:
+                self.lines.append((line, where))
+
+    def tokens(self, text, row):
+        found = []
+        for match in re.finditer("[A-Za-z][A-Za-z0-9]*|[0-9]+|[^ ]", text):
+            word, column = match.group(), match.start()
+            kind = "word" if word[0].isalpha() else "number" if word[0].isdigit() else "mark"
+            found.append((kind, word, row, column, column > 0 and text[column - 1] != " "))
+        return found
+
+    def chosen(self, config):
+        return [text for text, where in self.lines if config in where]
+
+
+def written_by_definition(d, switches):
+    if not isinstance(d, tuple):
+        return "1" if d else "0"
+    low, high = [f"({written_by_definition(half, switches)})" if isinstance(half, tuple)
+                 else written_by_definition(half, switches) for half in d[1:]]
+    return f"{switches[d[0]]}?{high}:{low}"
+
+
+def tree_text_by_definition(tree):
+    if isinstance(tree, int):
+        return f"#{tree}"
+    return f"{tree[0]}({' '.join(tree_text_by_definition(child) for child in tree[1])})"
+
+
+def reasons_text(reasons):
+    return "; ".join(f"{word} {'.'.join(map(str, path)) or '.'} {k}" for word, path, k in reasons) or "allowed"

@@ -1,6 +1,7 @@
 """The names of the interface: in which file they are defined, with which arguments."""
 
 import ast
+import importlib
 import pathlib
 import unittest
 
@@ -83,6 +84,19 @@ FUNCTIONS = {
         "check_paper": ["grammar", "folded", "count", "paper"],
         "check_report": ["grammar", "folded", "count", "conditions", "report"],
     },
+    "reports": {
+        "nothing_paper": ["grammar", "folded", "diagram"],
+        "once_paper": ["grammar", "folded", "diagram"],
+        "make_report": ["grammar", "folded", "count"],
+    },
+    "projects": {
+        "read_project": ["text"],
+        "project_text": ["project"],
+        "shelf_of": ["project"],
+    },
+    "sessions": {
+        "tree_text": ["tree"],
+    },
 }
 
 CONSTANTS = {
@@ -100,6 +114,30 @@ CLASSES = {
         "BadGrammar": (["FoldError"], ["self", "line"]),
         "TooMany": (["FoldError"], None),
         "NotAllowed": (["FoldError"], None),
+    },
+    "desks": {
+        "Desk": ([], ["self", "grammar", "switches", "shelf", "name"]),
+    },
+    "sessions": {
+        "Session": ([], ["self", "project"]),
+    },
+}
+
+METHODS = {
+    ("desks", "Desk"): {
+        "edit": ["self", "file", "first", "count", "lines"],
+        "drop": ["self", "file"],
+        "text": ["self", "file"],
+        "files": ["self"],
+        "folded": ["self"],
+        "forest": ["self"],
+        "alive": ["self"],
+        "conditions": ["self"],
+        "read": ["self"],
+    },
+    ("sessions", "Session"): {
+        "run": ["self", "line"],
+        "desk": ["self"],
     },
 }
 
@@ -137,6 +175,29 @@ class InterfaceTest(unittest.TestCase):
                 made = [node for node in found[name].body
                         if isinstance(node, ast.FunctionDef) and node.name == "__init__"]
                 self.assertEqual([argument_names(node) for node in made], [arguments] if arguments else [])
+
+    def test_methods(self):
+        for (module, name), methods in METHODS.items():
+            body = definitions(module, ast.ClassDef)[name].body
+            found = {node.name: node for node in body if isinstance(node, ast.FunctionDef)}
+            for method, arguments in methods.items():
+                self.assertIn(method, found, name)
+                self.assertEqual(argument_names(found[method]), arguments, method)
+                self.assertEqual(found[method].args.defaults, [])
+
+    def test_arguments_are_plain(self):
+        for module, functions in FUNCTIONS.items():
+            found = definitions(module, ast.FunctionDef)
+            for name in functions:
+                told = found[name].args
+                self.assertFalse(told.vararg or told.kwarg or told.kwonlyargs or told.posonlyargs or told.defaults, name)
+
+    def test_each_module_can_be_imported(self):
+        for module in list(FUNCTIONS) + list(CONSTANTS) + list(CLASSES):
+            imported = importlib.import_module("oncefolded." + module)
+            names = list(FUNCTIONS.get(module, {})) + CONSTANTS.get(module, []) + list(CLASSES.get(module, {}))
+            for name in names:
+                self.assertTrue(hasattr(imported, name), name)
 
 
 if __name__ == "__main__":
