@@ -33,29 +33,34 @@ class Choices:
 
     def __init__(self, grammar, packed, configuration):
         self.grammar = grammar
-        self.packed = packed
+        self.packed = {span: packed[span] for span in packed}
         self.configuration = configuration
         self.bars = {bar[:3]: True for bar in grammar[2] if holds(bar[3], configuration)}
-        # From spans to dicts from rules to the lists of the ends of the alternatives that hold.
+        # From spans to dicts from rules to the tuples of the ends of the alternatives that hold.
         self.known = {}
 
-    def ends_of(self, span):
-        """Return a dict from the rules of the alternatives that hold to their ends."""
+    def read_span(self, span):
         if span not in self.known:
             found = {}
             for rule, ends, d in self.packed.get(span, ()):
                 if holds(d, self.configuration):
                     found.setdefault(rule, []).append(ends)
-            self.known[span] = found
-        return self.known[span]
+            self.known[span] = {rule: tuple(rows) for rule, rows in found.items()}
 
     def tops(self, span):
         """Return the list of the choices of a span."""
-        return [(span, rule) for rule in self.ends_of(span)]
+        self.read_span(span)
+        return [(span, rule) for rule in self.known[span]]
+
+    def ends_of(self, choice):
+        """Return the tuple of the ends that the tops of the trees of a choice have."""
+        span, rule = choice
+        self.read_span(span)
+        return self.known[span][rule]
 
     def below(self, rule, place, span):
         """Return the list of the choices of a span that may stand at a place of a rule."""
-        return [(span, top) for top in self.ends_of(span) if (rule, place, top) not in self.bars]
+        return [choice for choice in self.tops(span) if (rule, place, choice[1]) not in self.bars]
 
     def needed(self, tops):
         """Return the list of the choices and of all choices that they need, each
@@ -68,7 +73,7 @@ class Choices:
             if rule in rules.setdefault(span, []):
                 continue
             rules[span].append(rule)
-            for ends in self.ends_of(span)[rule]:
+            for ends in self.ends_of((span, rule)):
                 for place, lower in spans_in(self.grammar, rule, ends):
                     if (rule, place, lower) not in places:
                         places[(rule, place, lower)] = True
@@ -80,17 +85,18 @@ class Choices:
         numbers of their trees."""
         counts = {}
         sums = {}
-        for span, rule in choices:
+        for choice in choices:
+            rule = choice[1]
             total = 0
-            for ends in self.ends_of(span)[rule]:
+            for ends in self.ends_of(choice):
                 many = 1
                 for place, lower in spans_in(self.grammar, rule, ends):
                     key = (rule, place, lower)
                     if key not in sums:
-                        sums[key] = sum([counts[choice] for choice in self.below(*key)])
+                        sums[key] = sum([counts[top] for top in self.below(rule, place, lower)])
                     many = many * sums[key]
                 total += many
-            counts[(span, rule)] = total
+            counts[choice] = total
         return counts
 
     def rows_of_children(self, trees, rule, ends):
@@ -104,9 +110,10 @@ class Choices:
             rows = [row + (child,) for row in rows for child in children]
         return rows
 
-    def alternatives(self, choices):
-        """Return the list of the alternatives (rule, ends) of choices."""
-        return [(rule, ends) for span, rule in choices for ends in self.ends_of(span)[rule]]
+    def options(self, choices):
+        """Return the list of the pairs of a rule and the ends that the tops of the
+        trees of choices have."""
+        return [(choice[1], ends) for choice in choices for ends in self.ends_of(choice)]
 
     def nodes_of_one(self, span, turn):
         """Return the nodes of one tree of a span, each ahead of what is below it, and
@@ -114,7 +121,7 @@ class Choices:
         None. At the place `turn` the second alternative is chosen, elsewhere the first."""
         nodes = []
         fork = None
-        waiting = [self.alternatives(self.tops(span))]
+        waiting = [self.options(self.tops(span))]
         while waiting:
             node = waiting.pop()
             if isinstance(node, list):
@@ -124,7 +131,7 @@ class Choices:
                 node = (rule, len(ends))
                 children = [b for b, _ in ends]
                 for place, lower in spans_in(self.grammar, rule, ends):
-                    children[place] = self.alternatives(self.below(rule, place, lower))
+                    children[place] = self.options(self.below(rule, place, lower))
                 waiting.extend(children[::-1])
             nodes.append(node)
         return nodes, fork
@@ -148,9 +155,9 @@ def list_packed(grammar, packed, span, configuration):
     if sum([counts[top] for top in tops]) > MAX_TREES:
         raise TooMany(f"there are more than {MAX_TREES} trees")
     trees = {}
-    for lower, rule in needed:
-        trees[(lower, rule)] = [(rule, children) for ends in choices.ends_of(lower)[rule]
-                                for children in choices.rows_of_children(trees, rule, ends)]
+    for choice in needed:
+        trees[choice] = [(rule, children) for rule, ends in choices.options([choice])
+                         for children in choices.rows_of_children(trees, rule, ends)]
     return sorted([tree for top in tops for tree in trees[top]], key=numbers_in)
 
 

@@ -45,7 +45,8 @@ def make_report(grammar, folded, count):
     for word, d in (("tree", one), ("two", several)):
         for configuration in chosen(d, count):
             span = whole_span(grammar, folded, configuration)
-            papers.append((word, configuration, *some_packed(grammar, alive, span, configuration)))
+            trees = some_packed(grammar, alive, span, configuration)
+            papers.append((word, configuration, *trees))
     return ((none, one, several), tuple(papers))
 
 

@@ -37,7 +37,7 @@ class Steps:
     def lower_items(self, rule, place, b, e):
         """Return the list of the whole items that may stand at the place of the rule from b to e."""
         kind, told = self.grammar[1][rule][1][place]
-        return self.wholes.get((told, b, e), []) if kind == "symbol" else []
+        return list(self.wholes.get((told, b, e), [])) if kind == "symbol" else []
 
     def lower_bits(self, rule, place, lower):
         """Return where a lower item may be used at the place of the rule."""
@@ -74,11 +74,15 @@ class Steps:
         return (some, several)
 
     def found_from(self, rule, place, b):
-        """Return the list of the (e, some, several) of a part that begins at b."""
+        """Return the tuple of the (e, some, several) of a part that begins at b."""
         key = (rule, place, b)
         if key not in self.rows:
-            rows = [(e, *self.found_at(rule, place, b, e)) for e in range(b + 1, len(self.tokens) + 1)]
-            self.rows[key] = [row for row in rows if row[1]]
+            found = []
+            for e in range(b + 1, len(self.tokens) + 1):
+                some, several = self.found_at(rule, place, b, e)
+                if some:
+                    found.append((e, some, several))
+            self.rows[key] = tuple(found)
         return self.rows[key]
 
     def first_steps(self, rule, b):

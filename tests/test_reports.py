@@ -63,6 +63,20 @@ class SinglePapersTest(PaperCase):
         self.assertRaises(NotAllowed, nothing_paper, SUMS, FOLDED, d)
         self.assertRaises(NotAllowed, once_paper, SUMS, folded_words("1 + 2 + 3"), d)
 
+    def test_what_ends_elsewhere_is_not_needed(self):
+        # The first part is two numbers; that it might be one number, in two ways, does not count.
+        grammar = read_grammar(AB, "start S\nrule S = T word\nrule T = number\nrule T = number\nrule T = number number")
+        self.check(once_paper, grammar, folded_words("1 2 w"), True, 2)
+        self.check(once_paper, grammar, folded_words("1 2 w", True, A), A, 2)
+        self.assertRaises(NotAllowed, once_paper, grammar, folded_words("1 2 w", True, A), NOT_A)
+
+    def test_the_rows_are_the_smallest(self):
+        for grammar, folded in some_cases(964, 60, 4):
+            plain = PlainPapers(grammar, folded, 2)
+            none, one, _ = conditions_by_definition(grammar, folded, 2)
+            self.assertEqual(nothing_paper(grammar, folded, none), plain.paper("nothing", configs_of(none, 2)))
+            self.assertEqual(once_paper(grammar, folded, one), plain.paper("once", configs_of(one, 2)))
+
     def test_many(self):
         many = {(word, found): 0 for word in ("nothing", "once") for found in (False, True)}
         for grammar, folded in some_cases(961, 250, 4):
