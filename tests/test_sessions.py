@@ -339,7 +339,7 @@ class DrawnSessionsTest(SessionCase):
                                          for tree in derived])):
                 for k in sorted({0, 1, 2, len(found) - 1, len(found), len(found) + 5} - {-1}):
                     wanted = "many" if len(found) > 300 else found[k] if k < len(found) else "none"
-                    self.answers(session, (f"{word} {bits} {k}", wanted))
+                    self.answers(session, (f"{word} {bits} {k}", wanted if k < 10000 else "bad"))
         when = [diagram_where(told, 2) for told in (
             lambda c: many[c] == 0, lambda c: many[c] == 1, lambda c: many[c] > 1)]
         none, one, several = [written_by_definition(d, self.NAMES) for d in when]
